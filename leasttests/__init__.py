@@ -1,0 +1,1 @@
+"""Tests kept for programs that compare: see leasttests.bench."""
