@@ -225,6 +225,28 @@ def pick_least(found):
     return least
 
 
+def search_ways(rows, bound):
+    """All ways that some row goes, however long, of numbers below the bound."""
+    first = (0, (0, 0, 0))
+    seen = {first}
+    left = [first]
+    found = set()
+    while left:
+        node, held = left.pop()
+        kind, v, w, c, a, b = rows[node]
+        new = {1: range(bound), 2: [c], 3: [held[w] if kind == 3 else 0], 6: [held[v] if kind == 6 else 0]}.get(kind, ())
+        spots = [(a, held[:v] + (n,) + held[v + 1:]) for n in new]
+        if kind in (4, 5):
+            out = 0 if held[v] < (held[w] if kind == 4 else c) else 1
+            found.add(2 * node + out)
+            spots = [(b if out else a, held)]
+        for spot in spots:
+            if spot not in seen:
+                seen.add(spot)
+                left.append(spot)
+    return found
+
+
 def random_program(source, variables, size, kinds=(0, 1, 1, 1, 2, 3, 4, 4, 4, 5, 5, 6)):
     rows = []
     for i in range(size):

@@ -86,6 +86,16 @@ class Corners(unittest.TestCase):
         self.assertEqual(ask(load(3, rows), way(5, 0), way(6, 1), way(6, 0))[1:],
                          [[3, 6, 4, 5], [3, 6, 4, 5], [-1]])
 
+    def test_a_fourth_number_stands_anywhere_to_three_that_stand_apart(self):
+        # Z below X below Y, none of them small; then Z anew.
+        rows = [read(X, 1), read(Y, 2), read(Z, 3), below(Z, 4, 11, 4), less(Z, X, 5, 11), less(X, Y, 6, 11), read(Z, 7)]
+        above = rows + [less(Y, Z, 11, 11), end(), end(), end(), end()]
+        self.assertEqual(ask(load(3, above), way(7, 0), way(7, 1))[1:], [[4, 5, 6, 4, 7], [4, 5, 6, 4, 0]])
+        between = rows + [less(X, Z, 8, 11), less(Z, Y, 11, 11), end(), end(), end()]
+        self.assertEqual(ask(load(3, between), way(8, 0), way(8, 1))[1:], [[4, 5, 7, 4, 6], [4, 5, 6, 4, 6]])
+        under = rows + [below(Z, 4, 11, 8), less(Z, X, 11, 11), end(), end(), end()]
+        self.assertEqual(ask(load(3, under), way(8, 0), way(8, 1))[1:], [[4, 5, 6, 4, 4], [4, 5, 6, 4, 5]])
+
     def test_a_way_that_only_a_number_of_4_or_more_goes(self):
         program = load(1, [read(X, 1), below(X, 4, 0, 2), end()])
         self.assertEqual(ask(program, way(1, 1), run([3]), run([4]), FILL, GONE)[1:],

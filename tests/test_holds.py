@@ -4,8 +4,9 @@ import random
 import unittest
 
 from helper import (
-    FEWER, FILL, GONE, MISSED, NEVER, WAYS, ask, drop, gone_by, keep, load, pick_least, plain_fewer, plain_needless,
-    plain_run, plain_run_answer, plain_told, plain_ways, product, random_program, run, search_least, way, who)
+    FEWER, FILL, GONE, MISSED, NEVER, WAYS, X, Y, Z, ask, drop, gone_by, keep, load, pick_least, plain_fewer,
+    plain_needless, plain_run, plain_run_answer, plain_told, plain_ways, product, random_program, read, run,
+    search_least, search_ways, way, who)
 
 # Programs of these kinds read and compare much, so that many of their least tests are long.
 READING = (1, 1, 1, 2, 3, 4, 4, 4, 5)
@@ -22,6 +23,16 @@ def some_programs(seed, count, sizes, kinds=None):
             rows = [row[:4] + ((i + 1) % size if source.random() < 0.6 else row[4],) + row[5:]
                     for i, row in enumerate(rows)]
         yield source, variables, rows
+
+
+def apart_programs(seed, count):
+    """Programs that read three numbers first, mostly large ones, and go on reading and comparing."""
+    source = random.Random(seed)
+    for turn in range(count):
+        size = source.randrange(8, 17)
+        rows = random_program(source, 3, size, (1, 1, 4, 4, 4, 4, 5, 3))
+        rows = [row[:3] + (source.choice((4, 4, 4, 1, 2, 3)), (i + 1) % size) + row[5:] for i, row in enumerate(rows)]
+        yield [read(X, 1), read(Y, 2), read(Z, 3)] + rows[3:]
 
 
 def some_test(source, longest):
@@ -111,6 +122,16 @@ class LeastTests(unittest.TestCase):
             self.assertEqual(ways[1:], [n for n in least if least[n] is not None])
             self.assertEqual(never[1:], [n for n in least if least[n] is None])
             self.assertEqual([ways[0], never[0]], [len(ways) - 1, len(never) - 1])
+
+    def test_against_all_rows_however_long_of_small_numbers(self):
+        programs = [rows for source, variables, rows in some_programs(12, 300, range(4, 17), READING)]
+        for rows in programs + list(apart_programs(13, 300)):
+            searched = search_ways(rows, 9)
+            for number, test in all_least(3, rows).items():
+                if test is None:
+                    self.assertNotIn(number, searched, (rows, number))
+                elif max(test, default=0) < 9:
+                    self.assertIn(number, searched, (rows, number))
 
     def test_no_long_row_goes_where_none_is_told_to_go(self):
         for source, variables, rows in some_programs(7, 300, range(4, 17), READING):
