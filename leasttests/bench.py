@@ -1,9 +1,12 @@
 """The calls on one object, from a list of whole numbers to a list of whole numbers."""
 
 from leasttests.bits import numbers_of
-from leasttests.kept import missing_tests, needful_tests, ways_gone, without
+from leasttests.changes import changed_nodes, changed_program
+from leasttests.kept import (
+    first_teller, living_changes, missing_tests, needful_tests, needless_tests, ways_gone, without)
 from leasttests.program import all_ways, is_comparison, make_program
-from leasttests.study import Study, known_least, known_run, reached_ways
+from leasttests.study import (
+    Study, every_change, known_apart, known_changes, known_least, known_run, reached_ways)
 
 MOST_KEPT = 32
 LONGEST_TEST = 256
@@ -13,6 +16,7 @@ NONE_SUCH = -2
 NO_PROGRAM = -11
 NOT_AS_TOLD = -22
 TOO_MANY = -28
+IT_LIVES = -33
 
 # For each call of the interface, by its number: how many whole numbers it has, and how many rows behind them.
 FORMS = (
@@ -21,11 +25,22 @@ FORMS = (
 )
 
 
-# study is None till a program is loaded.
+# study is None till a program is loaded. studies holds all so far, as a change may be changed back.
 class Bench:
     def __init__(self):
         self.study = None
+        self.studies = {}
         self.tests = []
+
+
+def set_program(bench, program):
+    if bench.study is not None:
+        # What it holds is much, and all that it answered is kept without it.
+        bench.study.crowd = None
+    key = (program.variables, tuple(program.nodes))
+    if key not in bench.studies:
+        bench.studies[key] = Study(program)
+    bench.study = bench.studies[key]
 
 
 def counted(numbers):
@@ -41,7 +56,7 @@ def load(bench, numbers, row):
     program = make_program(numbers[0], row)
     if program is None:
         return [NOT_AS_TOLD]
-    bench.study = Study(program)
+    set_program(bench, program)
     bench.tests = []
     return [len(all_ways(program))]
 
@@ -118,7 +133,87 @@ def who(bench, numbers, row):
     return counted([k for k, test in enumerate(bench.tests) if known_run(bench.study, test).way_bits & bit])
 
 
-CALLS = (load, run, keep, drop, fill, fewer, way, ways, never, gone, missed, who)
+def has_change(bench, k):
+    return k < len(known_changes(bench.study))
+
+
+def changes(bench, numbers, row):
+    return [len(known_changes(bench.study))]
+
+
+def change(bench, numbers, row):
+    k = numbers[0]
+    if not has_change(bench, k):
+        return [NONE_SUCH]
+    found = known_changes(bench.study)[k]
+    return [found[0]] + list(changed_nodes(bench.study.program, found)[found[0]])
+
+
+def take(bench, numbers, row):
+    k = numbers[0]
+    if not has_change(bench, k):
+        return [NONE_SUCH]
+    found = known_changes(bench.study)[k]
+    set_program(bench, changed_program(bench.study.program, found))
+    return [found[0]]
+
+
+def told(bench, numbers, row):
+    k = numbers[0]
+    if not has_change(bench, k):
+        return [NONE_SUCH]
+    found = first_teller(bench.study, bench.tests, k)
+    return [IT_LIVES if found is None else found]
+
+
+def tells(bench, numbers, row):
+    k = numbers[0]
+    if not has_change(bench, k):
+        return [NONE_SUCH]
+    if len(row) > LONGEST_TEST:
+        return [NOT_AS_TOLD]
+    return [1 if known_apart(bench.study, tuple(row), 1 << k) else 0]
+
+
+def lives(bench, numbers, row):
+    return counted(numbers_of(living_changes(bench.study, bench.tests)))
+
+
+def worth(bench, numbers, row):
+    k = numbers[0]
+    if k >= len(bench.tests):
+        return [NONE_SUCH]
+    return [len(numbers_of(known_apart(bench.study, bench.tests[k], every_change(bench.study))))]
+
+
+def needless(bench, numbers, row):
+    return counted(needless_tests(bench.study, bench.tests))
+
+
+def kept_test(bench, numbers, row):
+    k = numbers[0]
+    if k >= len(bench.tests):
+        return [NONE_SUCH]
+    return counted(bench.tests[k])
+
+
+def node(bench, numbers, row):
+    i = numbers[0]
+    nodes = bench.study.program.nodes
+    if i >= len(nodes):
+        return [NONE_SUCH]
+    return [0] + list(nodes[i])
+
+
+def state(bench, numbers, row):
+    program = bench.study.program
+    return [0, program.variables, len(program.nodes), len(all_ways(program)), len(bench.tests)]
+
+
+CALLS = (
+    load, run, keep, drop, fill, fewer, way, ways, never, gone, missed, who,
+    changes, change, take, told, tells, lives, worth, needless, kept_test, node, state,
+)
 
 
 def answer_call(bench, call, numbers, row):

@@ -8,5 +8,11 @@ def bits_of(numbers):
     return bits
 
 
+# Of hundreds of bits few are often 1, so it goes from one to the next.
 def numbers_of(bits):
-    return [k for k in range(bits.bit_length()) if bits >> k & 1]
+    found = []
+    while bits:
+        low = bits & -bits
+        found.append(low.bit_length() - 1)
+        bits ^= low
+    return found

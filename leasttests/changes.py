@@ -1,6 +1,6 @@
 """The changes of a program, each of one number of one node."""
 
-from leasttests.program import spans
+from leasttests.program import Program, spans
 
 
 # Triples of node, place in its row, and new number, in the order in which changes are numbered.
@@ -20,3 +20,7 @@ def changed_nodes(program, change):
     nodes = list(program.nodes)
     nodes[i] = row[:place] + (number,) + row[place + 1:]
     return nodes
+
+
+def changed_program(program, change):
+    return Program(program.variables, changed_nodes(program, change))

@@ -1,6 +1,7 @@
 """What kept tests do together. A test is a tuple of numbers."""
 
-from leasttests.study import known_apart, known_least, known_run, reached_ways
+from leasttests.program import MOST_NODES
+from leasttests.study import every_change, known_apart, known_least, known_run, reached_ways
 
 
 def ways_gone(study, tests):
@@ -10,30 +11,50 @@ def ways_gone(study, tests):
     return bits
 
 
-def changes_told(study, tests):
-    bits = 0
+# What one test tells the next needn't be asked for: most changes are told by the first tests.
+def living_changes(study, tests):
+    left = every_change(study)
     for test in tests:
-        bits |= known_apart(study, test)
-    return bits
+        left &= ~known_apart(study, test, left)
+    return left
 
 
-# Ways come first, as they are found much sooner than what a test tells apart.
-def is_needless(study, test, others):
-    if known_run(study, test).way_bits & ~ways_gone(study, others):
-        return False
-    return known_apart(study, test) & ~changes_told(study, others) == 0
+# None where the change lives.
+def first_teller(study, tests, k):
+    for number, test in enumerate(tests):
+        if known_apart(study, test, 1 << k):
+            return number
+    return None
 
 
-def without(tests, k):
-    return tests[:k] + tests[k + 1:]
+# All that a test is kept for, as bits: the ways that it goes, and behind them the changes that it tells.
+def marks_of(study, test):
+    return known_run(study, test).way_bits | known_apart(study, test, every_change(study)) << 2 * MOST_NODES
+
+
+def is_needless(marks, k):
+    others = 0
+    for bits in without(marks, k):
+        others |= bits
+    return marks[k] & ~others == 0
+
+
+def without(row, k):
+    return row[:k] + row[k + 1:]
+
+
+def needless_tests(study, tests):
+    marks = [marks_of(study, test) for test in tests]
+    return [k for k in range(len(tests)) if is_needless(marks, k)]
 
 
 def needful_tests(study, tests):
+    marks = [marks_of(study, test) for test in tests]
     left = tests
     for k in range(len(tests) - 1, -1, -1):
-        others = without(left, k)
-        if is_needless(study, left[k], others):
-            left = others
+        if is_needless(marks, k):
+            marks = without(marks, k)
+            left = without(left, k)
     return left
 
 

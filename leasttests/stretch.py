@@ -16,19 +16,19 @@ ROUND = 2
 AT_FIRST = (0, 0, 0)
 # Within a stretch a variable holds one of the three numbers held at its beginning, or one of these.
 SMALL = (0, 1, 2, 3)
+# Where the number that is read next stands, behind those.
+NEXT_READ = 7
 
 
-# places says of each variable where, in what was held and SMALL behind it, the number stands
-# that it holds now; said says so of each number told. A stretch that waits goes on, when a
-# number is read into variable, at the node follow.
+# Numbers are said by their places in what was held at the beginning, SMALL, and the number read
+# behind the stretch: said are those told, places those held then. A stretch that waits goes on at
+# the node follow; follow and places are None where it doesn't.
 class Stretch:
-    def __init__(self, how, row, places, said, path, passed):
+    def __init__(self, how, follow, places, said, path, passed):
         self.how = how
-        self.variable = row[1]
-        self.follow = row[4]
-        self.places = tuple(places)
-        # Where a run goes round, what it told behind its last read is not answered.
-        self.said = () if how == ROUND else tuple(said)
+        self.follow = follow
+        self.places = places
+        self.said = said
         self.path = path
         self.way_bits = bits_of(path)
         self.node_bits = bits_of(passed)
@@ -38,10 +38,38 @@ class Stretch:
 # number that may be read next, below, between or above these, can be named.
 def shape(held):
     x, y, z = held
-    if x < 4 and y < 4 and z < 4:
-        return held
-    large = sorted(set([n for n in held if n > 3]))
-    return tuple([n if n < 4 else 5 + 2 * large.index(n) for n in held])
+    if x > 3 and y > 3 and z > 3:
+        return order_of_three(x, y, z)
+    if x > 3 and y > 3:
+        return order_of_two(x, y) + (z,)
+    if y > 3 and z > 3:
+        return (x,) + order_of_two(y, z)
+    if x > 3 and z > 3:
+        first, second = order_of_two(x, z)
+        return (first, y, second)
+    return (x if x < 4 else 5, y if y < 4 else 5, z if z < 4 else 5)
+
+
+def order_of_two(x, y):
+    if x < y:
+        return (5, 7)
+    return (5, 5) if x == y else (7, 5)
+
+
+def order_of_three(x, y, z):
+    if x == y:
+        first, second = order_of_two(x, z)
+        return (first, first, second)
+    if x == z or y == z:
+        first, second = order_of_two(x, y)
+        return (first, second, first if x == z else second)
+    if x < y:
+        if y < z:
+            return (5, 7, 9)
+        return (5, 9, 7) if x < z else (7, 9, 5)
+    if x < z:
+        return (7, 5, 9)
+    return (9, 5, 7) if y < z else (9, 7, 5)
 
 
 def known_stretch(program, node, held):
@@ -72,7 +100,17 @@ def walk_stretch(nodes, node, held):
         else:
             node = take_step(nodes[node], node, pool, places, said, path)
         seen[mark] = True
-    return Stretch(how, nodes[node], places, said, path, [mark[0] for mark in seen])
+    return make_stretch(how, nodes[node], places, said, path, [mark[0] for mark in seen])
+
+
+def make_stretch(how, row, places, said, path, passed):
+    if how == ENDS:
+        return Stretch(how, None, None, tuple(said), path, passed)
+    if how == ROUND:
+        # Where a run goes round, what it told behind its last read is not answered.
+        return Stretch(how, None, None, (), path, passed)
+    places[row[1]] = NEXT_READ
+    return Stretch(how, row[4], tuple(places), tuple(said), path, passed)
 
 
 # Brings places, said and path up to the node that comes next, and answers that.
@@ -99,7 +137,6 @@ def told_in(stretch, held):
 
 # What is held once the number behind the stretch is read.
 def held_after(stretch, held, number):
-    pool = held + SMALL
-    now = [pool[place] for place in stretch.places]
-    now[stretch.variable] = number
-    return tuple(now)
+    pool = held + SMALL + (number,)
+    x, y, z = stretch.places
+    return (pool[x], pool[y], pool[z])

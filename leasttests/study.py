@@ -6,6 +6,7 @@ from leasttests.reach import explore, least_path
 from leasttests.runs import run_test
 
 
+# apart holds for a test which changes were asked for so far, and those of them that it tells.
 class Study:
     def __init__(self, program):
         self.program = program
@@ -28,13 +29,29 @@ def known_reach(study):
     return study.reach
 
 
-# The changes, as bits, that the test tells from the program.
-def known_apart(study, test):
+def known_crowd(study):
     if study.crowd is None:
         study.crowd = Crowd(study.program)
-    if test not in study.apart:
-        study.apart[test] = told_apart(study.crowd, test, known_run(study, test))
-    return study.apart[test]
+    return study.crowd
+
+
+def known_changes(study):
+    return known_crowd(study).changes
+
+
+# All changes, as bits.
+def every_change(study):
+    return known_crowd(study).every
+
+
+# Those of the changes, as bits, that the test tells from the program.
+def known_apart(study, test, changes):
+    asked, apart = study.apart.get(test, (0, 0))
+    more = changes & ~asked
+    if more:
+        apart |= told_apart(known_crowd(study), more, test, known_run(study, test))
+        study.apart[test] = (asked | more, apart)
+    return apart & changes
 
 
 # Only for a way that some test goes.

@@ -12,6 +12,10 @@ WAYS = [7]
 NEVER = [8]
 GONE = [9]
 MISSED = [10]
+CHANGES = [12]
+LIVES = [17]
+NEEDLESS = [19]
+STATE = [22]
 
 X, Y, Z = 0, 1, 2
 
@@ -39,6 +43,34 @@ def way(i, out):
 
 def who(i, out):
     return [11, i, out]
+
+
+def change(k):
+    return [13, k]
+
+
+def take(k):
+    return [14, k]
+
+
+def told(k):
+    return [15, k]
+
+
+def tells(k, test):
+    return [16, k, len(test)] + list(test)
+
+
+def worth(k):
+    return [18, k]
+
+
+def kept(k):
+    return [20, k]
+
+
+def node(i):
+    return [21, i]
 
 
 # Nodes by name; what a kind doesn't look at is large, so that nothing may hang on it.
@@ -154,22 +186,49 @@ def gone_by(rows, tests):
     return {way for test in tests for way in plain_run(rows, test)[3]}
 
 
+LOOKS = {0: "", 1: "va", 2: "vca", 3: "vwa", 4: "vwab", 5: "vcab", 6: "va"}
+
+
+def may_be(variables, rows, kind, name):
+    """All that v, w, c, a or b of a node may be."""
+    if name == "c":
+        return range(4) if kind == 2 else range(1, 5)
+    return range(variables) if name in "vw" else range(len(rows))
+
+
+def plain_is_program(variables, rows):
+    return 1 <= variables <= 3 and 1 <= len(rows) <= 16 and all(
+        row[0] <= 6 and all(row["kvwcab".index(name)] in may_be(variables, rows, row[0], name) for name in LOOKS[row[0]])
+        for row in rows)
+
+
 def plain_changes(variables, rows):
     """All changed programs, in the document's order."""
-    looks = {0: "", 1: "va", 2: "vca", 3: "vwa", 4: "vwab", 5: "vcab", 6: "va"}
     found = []
     for i, row in enumerate(rows):
         for place, name in enumerate("vwcab", start=1):
-            if name in looks[row[0]]:
-                may = range(variables) if name in "vw" else range(len(rows))
-                if name == "c":
-                    may = range(4) if row[0] == 2 else range(1, 5)
-                for n in may:
+            if name in LOOKS[row[0]]:
+                for n in may_be(variables, rows, row[0], name):
                     if n != row[place]:
                         changed = list(row)
                         changed[place] = n
                         found.append(list(rows[:i]) + [tuple(changed)] + list(rows[i + 1:]))
     return found
+
+
+def changed_place(rows, changed):
+    """The one node in which the two differ."""
+    found = [i for i, row in enumerate(rows) if row != changed[i]]
+    if len(found) != 1 or len(rows) != len(changed):
+        raise AssertionError("not changed at one place")
+    return found[0]
+
+
+def number_of(variables, rows, i, name, n):
+    """The number of the change of node i's v, w, c, a or b to n."""
+    wanted = list(rows)
+    wanted[i] = rows[i][:"kvwcab".index(name)] + (n,) + rows[i]["kvwcab".index(name) + 1:]
+    return plain_changes(variables, rows).index(wanted)
 
 
 def plain_told(variables, rows, test):
@@ -181,20 +240,6 @@ def plain_told(variables, rows, test):
         if (other[0], other[2]) != (own[0], own[2]):
             found.add(k)
     return found
-
-
-def plain_needless(variables, rows, tests, k):
-    others = tests[:k] + tests[k + 1:]
-    told = [plain_told(variables, rows, test) for test in tests]
-    kept = set().union(*(told[:k] + told[k + 1:]))
-    return gone_by(rows, [tests[k]]) <= gone_by(rows, others) and told[k] <= kept
-
-
-def plain_fewer(variables, rows, tests):
-    for k in reversed(range(len(tests))):
-        if plain_needless(variables, rows, tests, k):
-            tests = tests[:k] + tests[k + 1:]
-    return tests
 
 
 def search_least(rows, longest):
@@ -256,3 +301,189 @@ def random_program(source, variables, size, kinds=(0, 1, 1, 1, 2, 3, 4, 4, 4, 5,
             source.randrange(1, 5) if kind == 5 else source.randrange(4),
             source.randrange(size), source.randrange(size)))
     return rows
+
+
+def all_least(variables, rows):
+    """For each way its least test, or None, as a new object answers it."""
+    numbers = plain_ways(rows)
+    found = ask(load(variables, rows), *[way(n // 2, n % 2) for n in numbers])[1:]
+    return {n: None if answer == [-1] else tuple(answer[1:]) for n, answer in zip(numbers, found)}
+
+
+class PlainBench:
+    """All calls, one after another, answered plainly. Only least tests are asked of the program itself, of a new
+    object each time: other tests hold these against plain searches."""
+
+    names = (
+        "load run keep drop fill fewer way ways never gone missed who changes change take told tells lives worth"
+        " needless kept node state").split()
+
+    def __init__(self):
+        self.variables = None
+        self.rows = None
+        self.tests = []
+        self.found = {}
+
+    def answer(self, call):
+        name = self.names[call[0]]
+        numbers = list(call[1:])
+        if name == "load":
+            return self.load(numbers[0], numbers[2:])
+        if self.rows is None:
+            return [-11]
+        if name in ("run", "keep"):
+            return getattr(self, name)(tuple(numbers[1:]))
+        if name == "tells":
+            return self.tells(numbers[0], tuple(numbers[2:]))
+        return getattr(self, name)(*numbers)
+
+    def once(self, *key):
+        """What a plain function answers of the program as it is, found once."""
+        key = (self.variables, tuple(self.rows)) + key
+        if key not in self.found:
+            self.found[key] = key[2](self.variables, self.rows, *key[3:])
+        return self.found[key]
+
+    def changed(self):
+        return self.once(plain_changes)
+
+    def told_by(self, test):
+        return self.once(plain_told, test)
+
+    def least(self):
+        return self.once(all_least)
+
+    def ways_by(self, tests):
+        return gone_by(self.rows, tests)
+
+    def marks(self, tests):
+        """How many ways are gone, and how many changes told."""
+        return len(self.ways_by(tests)), len(set().union(*[self.told_by(test) for test in tests]))
+
+    def is_needless(self, k):
+        return self.marks(self.tests) == self.marks(self.tests[:k] + self.tests[k + 1:])
+
+    def load(self, variables, numbers):
+        rows = [tuple(numbers[k:k + 6]) for k in range(0, len(numbers), 6)]
+        if not plain_is_program(variables, rows):
+            return [-22]
+        self.variables, self.rows, self.tests = variables, rows, []
+        return [len(plain_ways(rows))]
+
+    def run(self, test):
+        return [-22] if len(test) > 256 else plain_run_answer(self.rows, test)
+
+    def keep(self, test):
+        if len(test) > 256 or len(self.tests) == 32:
+            return [-22 if len(test) > 256 else -28]
+        self.tests = self.tests + [test]
+        return [len(self.tests) - 1]
+
+    def drop(self, k):
+        if k >= len(self.tests):
+            return [-2]
+        self.tests = self.tests[:k] + self.tests[k + 1:]
+        return [len(self.tests)]
+
+    def fill(self):
+        tests = list(self.tests)
+        for number, test in self.least().items():
+            if test is not None and number not in self.ways_by(tests):
+                tests.append(test)
+        if len(tests) > 32:
+            return [-28]
+        more = len(tests) - len(self.tests)
+        self.tests = tests
+        return [more]
+
+    def fewer(self):
+        before = len(self.tests)
+        for k in reversed(range(before)):
+            if self.is_needless(k):
+                self.tests = self.tests[:k] + self.tests[k + 1:]
+        return [before - len(self.tests)]
+
+    def way(self, i, out):
+        if out > 1 or 2 * i not in plain_ways(self.rows):
+            return [-22]
+        test = self.least()[2 * i + out]
+        return [-1] if test is None else counted(test)
+
+    def ways(self):
+        return counted(n for n, test in self.least().items() if test is not None)
+
+    def never(self):
+        return counted(n for n, test in self.least().items() if test is None)
+
+    def gone(self):
+        return counted(sorted(self.ways_by(self.tests)))
+
+    def missed(self):
+        return counted(n for n in self.ways()[1:] if n not in self.ways_by(self.tests))
+
+    def who(self, i, out):
+        if out > 1 or 2 * i not in plain_ways(self.rows):
+            return [-22]
+        return counted(k for k, test in enumerate(self.tests) if 2 * i + out in self.ways_by([test]))
+
+    def changes(self):
+        return [len(self.changed())]
+
+    def change(self, k):
+        if k >= len(self.changed()):
+            return [-2]
+        i = changed_place(self.rows, self.changed()[k])
+        return [i] + list(self.changed()[k][i])
+
+    def take(self, k):
+        if k >= len(self.changed()):
+            return [-2]
+        i = changed_place(self.rows, self.changed()[k])
+        self.rows = self.changed()[k]
+        return [i]
+
+    def told(self, k):
+        if k >= len(self.changed()):
+            return [-2]
+        return [j for j, test in enumerate(self.tests) if k in self.told_by(test)][:1] or [-33]
+
+    def tells(self, k, test):
+        if k >= len(self.changed()) or len(test) > 256:
+            return [-2 if k >= len(self.changed()) else -22]
+        return [1 if k in self.told_by(test) else 0]
+
+    def lives(self):
+        return counted(k for k in range(len(self.changed())) if self.told(k) == [-33])
+
+    def worth(self, k):
+        return [-2] if k >= len(self.tests) else [len(self.told_by(self.tests[k]))]
+
+    def needless(self):
+        return counted(k for k in range(len(self.tests)) if self.is_needless(k))
+
+    def kept(self, k):
+        return [-2] if k >= len(self.tests) else counted(self.tests[k])
+
+    def node(self, i):
+        return [-2] if i >= len(self.rows) else [0] + list(self.rows[i])
+
+    def state(self):
+        return [0, self.variables, len(self.rows), len(plain_ways(self.rows)), len(self.tests)]
+
+
+def plain_bench(variables, rows, tests):
+    bench = PlainBench()
+    bench.load(variables, flat(rows))
+    bench.tests = list(tests)
+    return bench
+
+
+def counted(numbers):
+    numbers = list(numbers)
+    return [len(numbers)] + numbers
+
+
+def plainly(*calls):
+    """The answers of the calls, one list each, by the plain bench."""
+    bench = PlainBench()
+    return [bench.answer(call) for call in calls]

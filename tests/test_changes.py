@@ -7,7 +7,7 @@ from helper import X, Y, below, copy, end, less, plain_changes, plain_told, put,
 from leasttests.bits import numbers_of
 from leasttests.changes import all_changes, changed_nodes
 from leasttests.program import make_program
-from leasttests.study import Study, known_apart
+from leasttests.study import Study, every_change, known_apart
 
 
 def program_of(variables, rows):
@@ -16,7 +16,7 @@ def program_of(variables, rows):
 
 def told_by(variables, rows, *tests):
     study = Study(program_of(variables, rows))
-    return [numbers_of(known_apart(study, tuple(test))) for test in tests]
+    return [numbers_of(known_apart(study, tuple(test), every_change(study))) for test in tests]
 
 
 class Changes(unittest.TestCase):

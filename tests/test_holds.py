@@ -4,9 +4,9 @@ import random
 import unittest
 
 from helper import (
-    FEWER, FILL, GONE, MISSED, NEVER, WAYS, X, Y, Z, ask, drop, gone_by, keep, load, pick_least, plain_fewer,
-    plain_needless, plain_run, plain_run_answer, plain_told, plain_ways, product, random_program, read, run,
-    search_least, search_ways, way, who)
+    FEWER, FILL, GONE, MISSED, NEEDLESS, NEVER, STATE, WAYS, X, Y, Z, all_least, ask, gone_by, keep, load, pick_least,
+    plain_bench, plain_run, plain_run_answer, plain_told, plain_ways, product, random_program, read, run, search_least,
+    search_ways, way, who)
 
 # Programs of these kinds read and compare much, so that many of their least tests are long.
 READING = (1, 1, 1, 2, 3, 4, 4, 4, 5)
@@ -38,13 +38,6 @@ def apart_programs(seed, count):
 def some_test(source, longest):
     return tuple(source.choice((source.randrange(7), source.randrange(4294967296)))
                  for k in range(source.randrange(longest + 1)))
-
-
-def all_least(variables, rows):
-    """For each way: its least test, or None."""
-    numbers = plain_ways(rows)
-    found = ask(load(variables, rows), *[way(n // 2, n % 2) for n in numbers])[1:]
-    return {n: None if answer == [-1] else tuple(answer[1:]) for n, answer in zip(numbers, found)}
 
 
 def as_kept(variables, rows, tests, *calls):
@@ -177,8 +170,10 @@ class KeptTests(unittest.TestCase):
         turned = 0
         for source, variables, rows in some_programs(10, 250, range(1, 11)):
             tests = [some_test(source, 6) for k in range(source.randrange(1, 7))]
-            left = plain_fewer(variables, rows, tests)
-            self.assertFalse([k for k in range(len(left)) if plain_needless(variables, rows, left, k)])
+            bench = plain_bench(variables, rows, tests)
+            bench.fewer()
+            left = bench.tests
+            self.assertEqual(bench.needless(), [0])
             self.assertEqual(gone_by(rows, left), gone_by(rows, tests))
             told = set().union(*[plain_told(variables, rows, test) for test in tests])
             self.assertEqual(told, set().union(*[plain_told(variables, rows, test) for test in left]))
@@ -190,7 +185,9 @@ class KeptTests(unittest.TestCase):
             for n, answer in zip(numbers, by):
                 wanted = [k for k, test in enumerate(left) if n in plain_run(rows, test)[3]]
                 self.assertEqual(answer[1:], wanted, (variables, rows, tests))
-            turned += left != list(reversed(plain_fewer(variables, rows, tests[::-1])))
+            bench = plain_bench(variables, rows, tests[::-1])
+            bench.fewer()
+            turned += left != bench.tests[::-1]
         # Often enough it matters that the last goes first.
         self.assertGreater(turned, 20)
 
@@ -198,9 +195,10 @@ class KeptTests(unittest.TestCase):
         """With two tests kept, it's seen of each by itself whether it's needless."""
         for source, variables, rows in some_programs(11, 60, range(10, 17), (0, 1, 1, 2, 3, 4, 5, 6, 6)):
             tests = [some_test(source, 10) for k in range(2)]
-            left = plain_fewer(variables, rows, tests)
-            found = as_kept(variables, rows, tests, FEWER, drop(len(left)))
-            self.assertEqual(found, [[2 - len(left)], [-2]], (variables, rows, tests))
+            found = as_kept(variables, rows, tests, NEEDLESS, FEWER, NEEDLESS, STATE)
+            bench = plain_bench(variables, rows, tests)
+            wanted = [bench.needless(), bench.fewer(), [0], bench.state()]
+            self.assertEqual(found, wanted, (variables, rows, tests))
 
 
 if __name__ == "__main__":

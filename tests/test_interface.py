@@ -1,9 +1,11 @@
 """The interface: leasttests.bench.answers, and what it says of a list of calls."""
 
+import itertools
 import unittest
 
 from helper import (
-    FEWER, FILL, GONE, MISSED, NEVER, WAYS, X, ask, below, drop, end, keep, load, read, run, split, tell, way, who)
+    CHANGES, FEWER, FILL, GONE, LARGEST, LIVES, MISSED, NEEDLESS, NEVER, STATE, WAYS, X, ask, below, change, drop, end,
+    keep, kept, load, node, plainly, read, run, split, take, tell, tells, told, way, who, worth)
 from leasttests.bench import answers
 
 PROGRAM = load(1, [read(X, 1), below(X, 2, 2, 3), tell(X, 0), end()])
@@ -14,11 +16,14 @@ AHEAD_OF_A_LOAD = [
     [1, 0], [1, 2, 5, 5], [1, 257] + [0] * 257, [2, 0], [2, 1, 9], [2, 260] + [9] * 260, [3, 0], [3, 4294967295],
     [4], [5], [6, 0, 0], [6, 99, 99], [7], [8], [9], [10], [11, 0, 0], [11, 99, 99], [12], [13, 99], [14, 99],
     [15, 99], [16, 99, 0], [16, 99, 2, 99, 99], [17], [18, 99], [19], [20, 99], [21, 99], [22],
+    [13, 0], [14, 0], [15, 0], [16, 0, 0], [16, 0, 257] + [0] * 257, [16, 4294967295, 260] + [9] * 260, [18, 0], [20, 0],
+    [21, 0],
 ]
 
 MANY = [
     PROGRAM, run([1, 1, 9]), keep([1]), keep([0, 5]), GONE, MISSED, who(1, 0), WAYS, NEVER, way(1, 1), way(0, 0),
-    FEWER, FILL, drop(0), drop(7), GONE, REFUSED, run([0] * 257),
+    FEWER, FILL, drop(0), drop(7), GONE, REFUSED, run([0] * 257), CHANGES, change(3), LIVES, take(3), LIVES, told(0),
+    told(99), tells(2, [1, 5]), worth(0), NEEDLESS, kept(0), kept(9), node(1), STATE, keep([2]), take(1), FEWER, LIVES,
 ]
 
 
@@ -55,6 +60,42 @@ class Interface(unittest.TestCase):
         self.assertEqual(found[1:30], [[k] for k in range(29)])
         self.assertEqual(found[-1], [2, 2, 3])
 
+    def test_counts_before_the_answers_of_the_later_calls(self):
+        calls = PROGRAM + keep([1]) + CHANGES + change(0) + told(0) + tells(0, []) + worth(0) + kept(0) + node(1) + STATE
+        self.assertEqual(answers(calls + NEEDLESS + take(0) + change(99) + LIVES + drop(0) + LIVES), [
+            1, 2,
+            1, 0,
+            1, 15,
+            7, 0, 1, 0, LARGEST, LARGEST, 0, LARGEST,
+            1, 0,
+            1, 0,
+            1, 9,
+            2, 1, 1,
+            7, 0, 5, 0, LARGEST, 2, 2, 3,
+            5, 0, 1, 4, 2, 1,
+            1, 0,
+            1, 0,
+            1, -2,
+            13, 12, 3, 4, 5, 6, 7, 8, 9, 10, 11, 12, 13, 14,
+            1, 0,
+            16, 15, 0, 1, 2, 3, 4, 5, 6, 7, 8, 9, 10, 11, 12, 13, 14])
+
+    def test_any_two_calls_behind_one_another(self):
+        each = [
+            PROGRAM, run([1, 9]), keep([9]), drop(0), FILL, FEWER, way(1, 1), WAYS, NEVER, GONE, MISSED, who(1, 0), CHANGES,
+            change(4), take(4), told(4), tells(4, [1]), LIVES, worth(0), NEEDLESS, kept(0), node(1), STATE]
+        self.assertEqual([call[0] for call in each], list(range(23)))
+        for pair in itertools.product(each, each):
+            calls = [PROGRAM, keep([1]), keep([0, 2]), *pair, LIVES, STATE]
+            self.assertEqual(ask(*calls), plainly(*calls), pair)
+
+    def test_sixty_of_each_call(self):
+        for call in ([FILL], [FEWER], [CHANGES], [change(2)], [take(2)], [told(2)], [tells(2, [1])], [LIVES], [worth(0)],
+                     [NEEDLESS], [kept(0)], [node(0)], [STATE]):
+            calls = [PROGRAM, keep([1])] + call * 58
+            self.assertEqual(len(calls), 60)
+            self.assertEqual(ask(*calls), plainly(*calls), call)
+
     def test_loads_among_the_calls(self):
         other = load(2, [below(1, 1, 1, 1), end()])
         self.assertEqual(ask(PROGRAM, WAYS, other, WAYS, PROGRAM, WAYS), [[2], [2, 2, 3], [2], [1, 0], [2], [2, 2, 3]])
@@ -84,11 +125,18 @@ class Interface(unittest.TestCase):
 
     def test_a_refusal_is_its_number_alone_and_changes_nothing(self):
         calls = [PROGRAM, keep([1]), keep([5])]
-        refused = [REFUSED, run([0] * 257), keep([0] * 258), drop(2), way(0, 0), way(1, 2), who(3, 0)]
-        for call in refused:
-            found = ask(*calls, call, GONE, who(1, 0), who(1, 1), keep([]))
-            self.assertEqual(found[3], [-2] if call == drop(2) else [-22])
-            self.assertEqual(found[4:], [[2, 2, 3], [1, 0], [1, 1], [2]])
+        looks = [GONE, who(1, 0), who(1, 1), LIVES, node(0), node(1), NEEDLESS, STATE, keep([])]
+        refused = {-22: [REFUSED, run([0] * 257), keep([0] * 258), way(0, 0), way(1, 2), who(3, 0), tells(0, [0] * 257)],
+                   -2: [drop(2), change(15), take(15), take(LARGEST), told(15), tells(15, [0] * 257), worth(2), kept(2),
+                        node(4)],
+                   -33: [told(4)]}
+        wanted = ask(*calls, *looks)[3:]
+        self.assertEqual(wanted[:3], [[2, 2, 3], [1, 0], [1, 1]])
+        for answer, several in refused.items():
+            for call in several:
+                found = ask(*calls, call, *looks)
+                self.assertEqual(found[3], [answer], call[:3])
+                self.assertEqual(found[4:], wanted, call[:3])
 
 
 if __name__ == "__main__":

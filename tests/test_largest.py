@@ -5,8 +5,9 @@ import time
 import unittest
 
 from helper import (
-    FEWER, FILL, GONE, MISSED, NEVER, WAYS, X, Y, Z, ask, below, copy, flat, keep, less, load, plain_run,
-    plain_run_answer, put, read, run, tell, way, who)
+    CHANGES, FEWER, FILL, GONE, LIVES, MISSED, NEEDLESS, NEVER, STATE, WAYS, X, Y, Z, ask, below, copy, end, flat, keep,
+    kept, less, load, plain_changes, plain_run, plain_run_answer, plain_told, put, read, run, take, tell, tells, told, way, who,
+    worth)
 from leasttests.bench import answers
 
 SECONDS = 60
@@ -36,6 +37,12 @@ FAR = [
     (1, 1, 1, 3, 7, 9)]
 
 
+# Nearly all changes live here, and many of them hold numbers of their own at every read.
+ALIVE = [
+    read(Y, 2), less(Z, X, 1, 14), read(X, 3), less(X, Z, 5, 14), read(Z, 5), copy(Z, Y, 6), less(X, X, 7, 2), end(),
+    less(Y, Y, 9, 6), read(Y, 8), read(Y, 11), read(X, 12), read(X, 13), read(Y, 15), read(Z, 15), read(Z, 0)]
+
+
 def many_tests(seed, count, bound, size=256):
     source = random.Random(seed)
     return [[source.randrange(bound) for k in range(size)] for j in range(count)]
@@ -60,6 +67,52 @@ class Largest(unittest.TestCase):
                     self.assertEqual(found[1:33], [[k] for k in range(32)])
                     self.assertEqual(found[-1], [0])
                     self.assertEqual(found[35][1:], sorted({n for test in tests for n in plain_run(rows, test)[3]}))
+
+    def test_sixty_calls_on_changes(self):
+        for name, rows in (("silent", SILENT), ("reads", READS), ("counter", COUNTER), ("alive", ALIVE)):
+            for bound in (8, 4294967296):
+                with self.subTest(name=name, bound=bound):
+                    tests = many_tests(4, 32, bound)
+                    count = len(plain_changes(3, rows))
+                    own = plain_told(3, rows, tests[0])
+                    calls = [load(3, rows)] + [keep(test) for test in tests]
+                    looks = [worth(0), told(count // 2), tells(count - 1, tests[0]), tells(count // 3, tests[0]), LIVES,
+                             NEEDLESS, told(count - 1), worth(31)]
+                    calls += looks + [take(count // 2), LIVES, NEEDLESS, worth(0), FILL, take(7), told(3), LIVES, worth(31)]
+                    calls += [take(count - 1), tells(11, tests[5]), worth(16), FEWER, NEEDLESS, LIVES, GONE, STATE, CHANGES,
+                              FEWER]
+                    self.assertEqual(len(calls), 60)
+                    found = self.in_good_time(calls)
+                    self.assertEqual(found[33], [len(own)])
+                    self.assertEqual(found[35:37], [[int(count - 1 in own)], [int(count // 3 in own)]])
+                    self.assertFalse(own & set(found[37][1:]))
+                    self.assertEqual(found[-1], [0])
+
+    def test_take_upon_take(self):
+        """Each take makes another program, of which nothing is known yet."""
+        for name, rows in (("silent", SILENT), ("reads", READS), ("alive", ALIVE)):
+            for look in (LIVES, NEEDLESS):
+                with self.subTest(name=name, look=look):
+                    count = len(plain_changes(3, rows))
+                    calls = [load(3, rows)] + [keep(test) for test in many_tests(5, 29, 8)]
+                    for k in range(15):
+                        calls += [take((37 * k + 11) % count), look]
+                    self.assertEqual(len(calls), 60)
+                    self.in_good_time(calls)
+
+    def test_fifty_four_tells_of_256_numbers(self):
+        tests = many_tests(6, 54, 4294967296)
+        changed = plain_changes(3, COUNTER)
+        numbers = [7 * k % len(changed) for k in range(54)]
+        found = self.in_good_time([load(3, COUNTER)] + [tells(k, test) for k, test in zip(numbers, tests)])
+        for k, test, answer in zip(numbers, tests, found[1:]):
+            own, other = plain_run(COUNTER, test), plain_run(changed[k], test)
+            self.assertEqual(answer, [int((own[0], own[2]) != (other[0], other[2]))])
+
+    def test_long_tests_that_are_shown(self):
+        tests = many_tests(7, 29, 4294967296)
+        found = self.in_good_time([load(3, READS)] + [keep(test) for test in tests] + [kept(k) for k in range(29)])
+        self.assertEqual(found[30:], [[256] + test for test in tests])
 
     def test_fifty_nine_runs_of_256_numbers(self):
         tests = many_tests(2, 59, 4294967296)
@@ -89,6 +142,15 @@ class Largest(unittest.TestCase):
         self.assertEqual(len(calls), 60)
         found = self.in_good_time(calls)
         self.assertEqual(found[:6], found[6:12])
+
+    def test_thirty_programs(self):
+        source = random.Random(8)
+        for rows in (FAR, READS, SILENT):
+            calls = [load(3, rows), FILL]
+            for k in range(29):
+                calls += [take(source.randrange(len(plain_changes(3, rows)))), FILL if k % 2 else WAYS]
+            self.assertEqual(len(calls), 60)
+            self.in_good_time(calls)
 
 
 if __name__ == "__main__":
