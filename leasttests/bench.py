@@ -35,7 +35,7 @@ class Bench:
 
 def set_program(bench, program):
     if bench.study is not None:
-        # What it holds is much, and all that it answered is kept without it.
+        # Its crowd takes much room, and what that has answered is kept without it.
         bench.study.crowd = None
     key = (program.variables, tuple(program.nodes))
     if key not in bench.studies:

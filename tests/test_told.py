@@ -163,13 +163,20 @@ class Needless(unittest.TestCase):
         self.assertEqual(found[4:], [[3, 0, 1, 2], [2], [0]])
 
     def test_needed_for_a_way_alone(self):
-        # What is behind the comparison is the same by both ways, and no change is told by [5] that [1] doesn't tell.
-        rows = [read(X, 1), below(X, 2, 2, 2), end()]
-        found = ask(load(1, rows), keep([1]), keep([5]), worth(0), worth(1), NEEDLESS, keep([9]), NEEDLESS)
-        self.assertEqual(found, plainly(load(1, rows), keep([1]), keep([5]), worth(0), worth(1), NEEDLESS, keep([9]),
-                                        NEEDLESS))
-        self.assertEqual([found[5], found[7]], [[0], [2, 1, 2]])
-        # Without a change at all, ways alone count.
+        # All go round in the end: what [0, 5] tells [5] tells, too, but it goes below 2 alone.
+        for size in range(3, 17):
+            rows = [read(X, size - 1)] + [put(X, 0, i) for i in range(1, size - 1)] + [below(X, 2, 1, 1)]
+            program = load(1, rows)
+            for tests in ([[0, 5], [5]], [[5], [0, 5]]):
+                calls = [program] + [keep(test) for test in tests] + [worth(0), worth(1), LIVES, NEEDLESS, FEWER, NEEDLESS]
+                found = ask(*calls)
+                self.assertEqual(sorted(found[3:5]), [[2], [3]], size)
+                self.assertEqual(found[6:], [[0], [0], [0]], size)
+                self.assertEqual(found, plainly(*calls))
+            # With another one that goes there, too, it's needless.
+            self.assertEqual(last(program, keep([0, 5]), keep([5]), keep([1, 9]), NEEDLESS), [2, 0, 2], size)
+
+    def test_without_a_change_that_is_told_ways_alone_count(self):
         self.assertEqual(ask(load(1, [below(X, 1, 0, 0)]), keep([]), keep([4]), NEEDLESS, FEWER, NEEDLESS)[3:],
                          [[2, 0, 1], [1], [0]])
 
@@ -233,6 +240,21 @@ class AgainstPlainRuns(unittest.TestCase):
                 for k, answer in zip(asked, answered):
                     first = [j for j, test in enumerate(tests) if apart(rows, changed[k], test)][:1] or [-33]
                     self.assertEqual(answer, first, (rows, tests, k))
+
+    def test_needless_ones_of_programs_with_many_ways(self):
+        source = random.Random(34)
+        needless, needed = 0, 0
+        for turn in range(60):
+            rows = random_program(source, 3, 16, (0, 1, 1, 4, 4, 4, 5, 5, 6))
+            # Straight on by way 0, so that the last nodes are come to as well.
+            rows = [row[:4] + ((i + 1) % 16,) + row[5:] for i, row in enumerate(rows)]
+            tests = [tuple(source.randrange(6) for k in range(source.randrange(1, 8))) for j in range(5)]
+            calls = [load(3, rows)] + [keep(test) for test in tests] + [NEEDLESS, FEWER, NEEDLESS, STATE, LIVES]
+            found = ask(*calls)
+            self.assertEqual(found, plainly(*calls), calls)
+            needless += found[6][0]
+            needed += 5 - found[6][0]
+        self.assertGreater(min(needless, needed), 50)
 
     def test_long_tests(self):
         source = random.Random(33)
